@@ -1,0 +1,1 @@
+"""Cubes that show dates."""
