@@ -25,6 +25,26 @@ def show(*row):
     return [4, len(row), *row]
 
 
+def missing():
+    return [5]
+
+
+def idle():
+    return [6]
+
+
+def need():
+    return [7]
+
+
+def ways():
+    return [8]
+
+
+def fewest():
+    return [9]
+
+
 def joined(calls):
     return [number for call in calls for number in call]
 
@@ -50,3 +70,10 @@ def ask(*calls):
 
 def last(*calls):
     return ask(*calls)[-1]
+
+
+def want_digits(cubes, digits):
+    """Wants rows in which just these digits stand, the last one as often as a row's end is open."""
+    digits = list(digits)
+    digits += [digits[-1]] * (-len(digits) % cubes)
+    return [want(*digits[place:place + cubes]) for place in range(0, len(digits), cubes)]
